@@ -1,0 +1,1 @@
+"""Greenturns: a crossing whose streams go in turns, and the shortest round."""
