@@ -1,5 +1,8 @@
 """Fractions: tuples (top, bottom) in lowest terms, the bottom above nought."""
 
+NOUGHT = (0, 1)
+ONE = (1, 1)
+
 
 def common_divisor(one, other):
     larger = one
@@ -38,3 +41,14 @@ def over(one, other):
 def less(one, other):
     # Both bottoms are above nought, so this is the order of the fractions themselves.
     return one[0] * other[1] < other[0] * one[1]
+
+
+def total(fractions):
+    answer = NOUGHT
+    for fraction in fractions:
+        answer = plus(answer, fraction)
+    return answer
+
+
+def whole(number):
+    return (number, 1)

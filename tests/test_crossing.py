@@ -1,36 +1,9 @@
 import unittest
-from itertools import combinations, permutations, product
+from itertools import combinations, permutations
 
 from greenturns.crossing import Crossing
-from greenturns.errors import BadClash, BadSize, NoStream, TurnError
-
-RING = [(0, 1), (1, 2), (2, 3), (3, 4), (4, 0)]
-FAR = 10 ** 5000
-
-
-def all_pairs(streams):
-    return list(combinations(range(streams), 2))
-
-
-def all_clash_lists(streams):
-    pairs = all_pairs(streams)
-    for chosen in product([False, True], repeat=len(pairs)):
-        yield [pair for pair, taken in zip(pairs, chosen) if taken]
-
-
-def may_go(clashes, group):
-    return not any((a, b) in clashes or (b, a) in clashes for a in group for b in group)
-
-
-def full_groups(streams, clashes):
-    sets = [
-        set(group)
-        for count in range(streams + 1)
-        for group in combinations(range(streams), count)
-        if may_go(clashes, group)
-    ]
-    largest = [group for group in sets if not any(group < other for other in sets)]
-    return sorted(tuple(sorted(group)) for group in largest)
+from greenturns.errors import BadClash, BadSize, NoStream
+from tests.helper import FAR, RING, all_clash_lists, all_pairs, check_refused, full_groups, may_go
 
 
 def ways_to_tell(clashes):
@@ -254,9 +227,7 @@ class TestNothingShared(unittest.TestCase):
 
 class TestRefusals(unittest.TestCase):
     def assert_refused(self, kind, call, *handed):
-        with self.assertRaises(TurnError) as taken:
-            call(*handed)
-        self.assertIs(type(taken.exception), kind)
+        check_refused(self, kind, call, *handed)
 
     def test_bad_size(self):
         for streams in [0, -1, -2, -6, 7, 8, 100, FAR, -FAR]:

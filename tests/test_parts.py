@@ -1,15 +1,11 @@
 import unittest
 from fractions import Fraction
-from math import gcd
 
 from greenturns.parts import less, minus, over, plus, times
+from tests.helper import check_form, part
 
 LONG_ONE = (123456789012345678901, 987654321098765432100)
 LONG_OTHER = (-10000000000000000000000000000001, 30000000000000000000000000000000)
-
-
-def part(value):
-    return (value.numerator, value.denominator)
 
 
 def small_parts():
@@ -35,14 +31,6 @@ def long_parts():
 
 
 class TestParts(unittest.TestCase):
-    def check_form(self, answer):
-        self.assertIs(type(answer), tuple)
-        self.assertEqual(len(answer), 2)
-        self.assertIs(type(answer[0]), int)
-        self.assertIs(type(answer[1]), int)
-        self.assertGreater(answer[1], 0)
-        self.assertEqual(gcd(answer[0], answer[1]), 1)
-
     def check_pair(self, one, other):
         left = Fraction(*one)
         right = Fraction(*other)
@@ -55,7 +43,7 @@ class TestParts(unittest.TestCase):
             self.assertEqual(over(one, other), part(left / right), (one, other))
             answers.append(over(one, other))
         for answer in answers:
-            self.check_form(answer)
+            check_form(self, answer)
 
     def test_plus(self):
         self.assertEqual(plus((1, 2), (1, 3)), (5, 6))
